@@ -52,7 +52,26 @@ func breaches(source []byte) []string {
 	for _, d := range file.Decls {
 		found = append(found, declBreaches(files, d)...)
 	}
+	found = append(found, recoverBreaches(file)...)
 	return append(found, nameBreaches(file)...)
+}
+
+// recoverBreaches finds each recover that is not in a deferred function literal.
+func recoverBreaches(file *ast.File) []string {
+	var found []string
+	ast.Inspect(file, func(n ast.Node) bool {
+		switch x := n.(type) {
+		case *ast.DeferStmt:
+			_, isLiteral := x.Call.Fun.(*ast.FuncLit)
+			return !isLiteral
+		case *ast.CallExpr:
+			if f, ok := x.Fun.(*ast.Ident); ok && f.Name == "recover" {
+				found = append(found, "recover without a deferred function literal")
+			}
+		}
+		return true
+	})
+	return found
 }
 
 func declBreaches(files *token.FileSet, d ast.Decl) []string {
@@ -153,6 +172,7 @@ func TestBreachesAreFound(t *testing.T) {
 		head + "import \"errors\"\n\nvar err = errors.New(\"odd\")\n",
 		head + "import \"sync\"\n\nfunc f(l *sync.Mutex) { l.Lock() }\n",
 		head + "var table = [2]int{1, 2}\n",
+		head + "func f() { defer func() { recover() }() }\n",
 		head + "func f() {\n" + strings.Repeat("\tf()\n", maxFunctionLines-2) + "}\n",
 	}
 	for _, source := range good {
@@ -170,6 +190,7 @@ func TestBreachesAreFound(t *testing.T) {
 		{"//go:build linux\n\npackage impl\n", "directive //go:build linux"},
 		{head + "//go:noinline\nfunc f() {}\n", "directive //go:noinline"},
 		{head + "func f() { println(1) }\n", "printing"},
+		{head + "func f() { recover() }\n", "recover without a deferred function literal"},
 		{head + "var count int\n", "package variable count"},
 		{head + "var table = map[int]int{}\n", "package variable table"},
 		{head + "var f = func() {}\n", "package variable f"},
