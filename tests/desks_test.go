@@ -153,7 +153,7 @@ func badDesks() map[string]impl.Desk {
 // wantedTake follows the chapter: it works on lists and sorts nothing, but
 // looks for the place of what it inserts.
 func wantedTake(d impl.Desk, p impl.Piece, due int) (impl.Desk, []byte, int) {
-	d = newDesk(d)
+	d = anew(d)
 	if slices.Contains(d.Done, p.Id) {
 		return d, nil, -1
 	}
@@ -435,7 +435,7 @@ func TestTakePieceOfAnOpenMessage(t *testing.T) {
 
 func TestTheSeventhOpenMessage(t *testing.T) {
 	d := fullDesk()
-	five := newDesk(d)
+	five := anew(d)
 	five.Open = slices.Delete(five.Open, 3, 4)
 	for _, id := range []int{3, 6, 50, 101, 253} {
 		sixth, _, code := take(t, five, someOf(id, 3, 1)[0], 9)

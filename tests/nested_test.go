@@ -147,9 +147,9 @@ func checkNested[A any, R any](t *testing.T, what string, argument A, call func(
 	}
 }
 
-// newDesk copies a desk and every slice in it.
-func newDesk(d impl.Desk) impl.Desk {
-	return lendNested(d, 0, 0).value.Interface().(impl.Desk)
+// anew copies a value and every slice in it.
+func anew[T any](value T) T {
+	return lendNested(value, 0, 0).value.Interface().(T)
 }
 
 func TestNestedFaultsAreFound(t *testing.T) {
@@ -171,12 +171,12 @@ func TestNestedFaultsAreFound(t *testing.T) {
 		},
 		"a result that two calls share": func(impl.Desk) impl.Desk { return impl.Desk{Done: kept} },
 		"two slices of one result that share": func(d impl.Desk) impl.Desk {
-			d = newDesk(d)
+			d = anew(d)
 			d.Open[1].Got[1].Data = d.Open[0].Got[0].Data[10:]
 			return d
 		},
 		"two slices that share behind their lengths": func(d impl.Desk) impl.Desk {
-			d = newDesk(d)
+			d = anew(d)
 			whole := make([]byte, 40)
 			d.Open[0].Got[0].Data, d.Open[1].Got[1].Data = whole[:20], whole[20:]
 			return d
@@ -187,7 +187,7 @@ func TestNestedFaultsAreFound(t *testing.T) {
 			t.Errorf("not found: %s", what)
 		}
 	}
-	if found := nestedFaults(goodDesk(), newDesk); len(found) != 0 {
+	if found := nestedFaults(goodDesk(), anew[impl.Desk]); len(found) != 0 {
 		t.Errorf("found without a fault: %v", found)
 	}
 }
