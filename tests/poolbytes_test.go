@@ -30,30 +30,21 @@ func wantedPoolBytes(p impl.Pool) []byte {
 
 // wantedPoolRead reads byte by byte, and looks for faults on the way.
 func wantedPoolRead(b []byte) (impl.Pool, bool) {
-	ok := true
-	take := func(count int) []byte {
-		if len(b) < count {
-			ok = false
-			return make([]byte, count)
-		}
-		part := b[:count]
-		b = b[count:]
-		return part
-	}
+	r := &bytesTaker{b, true}
 	var p impl.Pool
-	head := take(2)
-	for range head[0] {
-		h := take(3)
-		p.L = append(p.L, impl.Held{Next: int(h[0]), Due: int(h[1])*256 + int(h[2]), Cell: impl.Cell{B: take(cellBytes)}})
-		ok = ok && h[0] < nodeCount
+	cells, tags := r.one(), r.one()
+	for range cells {
+		h := impl.Held{Next: r.one(), Due: r.two()}
+		h.Cell.B = r.take(cellBytes)
+		p.L = append(p.L, h)
+		r.ok = r.ok && h.Next < nodeCount
 	}
-	for range head[1] {
-		digits := take(4)
-		tag := int(digits[0])<<24 + int(digits[1])<<16 + int(digits[2])<<8 + int(digits[3])
-		ok = ok && tag < prime && !slices.Contains(p.Tags, tag)
+	for range tags {
+		tag := r.four()
+		r.ok = r.ok && tag < prime && !slices.Contains(p.Tags, tag)
 		p.Tags = append(p.Tags, tag)
 	}
-	if !ok || len(b) > 0 || head[0] > mostHeld || head[1] > mostTags {
+	if !r.ok || len(r.b) > 0 || cells > mostHeld || tags > mostTags {
 		return impl.Pool{}, false
 	}
 	return p, true
@@ -61,31 +52,17 @@ func wantedPoolRead(b []byte) (impl.Pool, bool) {
 
 func checkNoPoolBytes(t *testing.T, what string, p impl.Pool) {
 	t.Helper()
-	if b, ok := impl.PoolBytes(p); ok || len(b) != 0 {
-		t.Errorf("%s: PoolBytes = %v %t, want nil and false", what, b, ok)
-	}
+	poolCoding().checkNotWritten(t, what, p)
 }
 
-// checkPoolRead compares PoolRead with the wanted reading, and what was read with its bytes.
 func checkPoolRead(t *testing.T, b []byte) bool {
 	t.Helper()
-	want, wantOk := wantedPoolRead(b)
-	got, ok := impl.PoolRead(b)
-	what := fmt.Sprintf("PoolRead(%v)", b)
-	checkFlag(t, what, ok, wantOk)
-	checkSame(t, what, got, want)
-	if ok {
-		again, _ := impl.PoolBytes(got)
-		checkBytes(t, "PoolBytes of what was read", again, b)
-	}
-	return ok
+	return poolCoding().checkRead(t, b)
 }
 
 func checkNoPool(t *testing.T, what string, b []byte) {
 	t.Helper()
-	got, ok := impl.PoolRead(b)
-	checkFlag(t, what+": PoolRead", ok, false)
-	checkSame(t, what+": PoolRead", got, impl.Pool{})
+	poolCoding().checkNotRead(t, what, b)
 }
 
 func TestPoolBytes(t *testing.T) {
